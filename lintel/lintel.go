@@ -4,6 +4,8 @@ package lintel
 import (
 	"lintel/api"
 	"lintel/digest"
+	"lintel/fuses"
+	"lintel/image"
 	"lintel/verify"
 )
 
@@ -28,13 +30,13 @@ func Verify(key string, message string, signature string) api.Errno {
 }
 
 // Fuses tells what fuses say (P5).
-func Fuses(words []int) (api.Fuses, api.Errno) { return api.Fuses{}, api.OK }
+func Fuses(words []int) (api.Fuses, api.Errno) { return fuses.Read(words) }
 
 // Head tells what an image's head says (P6).
-func Head(slot string) (api.Head, api.Errno) { return api.Head{}, api.OK }
+func Head(slot string) (api.Head, api.Errno) { return image.Head(slot) }
 
 // Check tells whether an image may be started (P7).
-func Check(slot string, f api.Fuses) (int, api.Errno) { return 0, api.OK }
+func Check(slot string, f api.Fuses) (int, api.Errno) { return image.Check(slot, f) }
 
 // Chip is a flash, fuses, and a few bytes that are kept.
 type Chip struct{}
