@@ -3,6 +3,7 @@ package lintel
 
 import (
 	"lintel/api"
+	"lintel/chip"
 	"lintel/digest"
 	"lintel/fuses"
 	"lintel/image"
@@ -39,13 +40,19 @@ func Head(slot string) (api.Head, api.Errno) { return image.Head(slot) }
 func Check(slot string, f api.Fuses) (int, api.Errno) { return image.Check(slot, f) }
 
 // Chip is a flash, fuses, and a few bytes that are kept.
-type Chip struct{}
+type Chip struct{ inner *chip.Chip }
 
 // New makes a chip (P8).
-func New(flash string, words []int, kept string) (*Chip, api.Errno) { return nil, api.OK }
+func New(flash string, words []int, kept string) (*Chip, api.Errno) {
+	inner, e := chip.New(flash, words, kept)
+	if e != api.OK {
+		return nil, e
+	}
+	return &Chip{inner: inner}, api.OK
+}
 
 // Boot starts it; runs are cut where the numbers say so (P9).
-func (c *Chip) Boot(gaps []int) api.Outcome { return api.Outcome{} }
+func (c *Chip) Boot(gaps []int) api.Outcome { return c.inner.Boot(gaps) }
 
 // Poke writes a byte of the flash (P10).
 func (c *Chip) Poke(address int, value int) api.Errno { return api.OK }
@@ -57,10 +64,10 @@ func (c *Chip) Burn(word int, bits int) api.Errno { return api.OK }
 func (c *Chip) Reset() {}
 
 // Flash tells the flash (P8).
-func (c *Chip) Flash() string { return "" }
+func (c *Chip) Flash() string { return c.inner.Flash() }
 
 // Words tells the fuses (P8).
-func (c *Chip) Words() []int { return nil }
+func (c *Chip) Words() []int { return c.inner.Words() }
 
 // Kept tells the bytes that are kept (P8).
-func (c *Chip) Kept() string { return "" }
+func (c *Chip) Kept() string { return c.inner.Kept() }
