@@ -50,6 +50,9 @@ func (c *Chip) Boot(gaps []int) api.Outcome {
 	return end
 }
 
+// Reset ends what runs (P10).
+func (c *Chip) Reset() { c.unlock() }
+
 // Flash tells the flash as it is now (P8).
 func (c *Chip) Flash() string { return string(c.flash) }
 

@@ -128,6 +128,36 @@ func TestCutRunLeavesNothingLocked(t *testing.T) {
 	}
 }
 
+// Behind a cut, even one between lock and jump, nothing may be changed: nothing runs that could ask for it.
+func TestCutRunLeavesTheChipDown(t *testing.T) {
+	for room := range 3 {
+		c := withImages(t, true)
+		r := run{chip: c, room: room}
+		r.do()
+		for _, address := range []int{0, api.SlotSize} {
+			if e := c.Poke(address, 0); e != api.ErrDown {
+				t.Errorf("cut behind %d notes: Poke at %d = %d", room, address, e)
+			}
+		}
+		for _, word := range []int{4, 5} {
+			if e := c.Burn(word, 0); e != api.ErrDown {
+				t.Errorf("cut behind %d notes: Burn of the word %d = %d", room, word, e)
+			}
+		}
+	}
+}
+
+func TestResetLeavesNothingLocked(t *testing.T) {
+	for _, inA := range []bool{true, false} {
+		c := withImages(t, inA)
+		c.Boot(nil)
+		c.Reset()
+		if c.locks != (locks{}) {
+			t.Errorf("behind a reset the locks are %+v", c.locks)
+		}
+	}
+}
+
 // What made a chip jump once is gone when it is started again: so are its locks.
 func TestStopLeavesNothingLocked(t *testing.T) {
 	for name, spoil := range map[string]func(*Chip){

@@ -8,11 +8,13 @@ import (
 	"lintel/api"
 )
 
-// Where things stand among the words.
+// PlacesAt is where the places of keys begin among the words; they go up to the end.
+const PlacesAt = 5
+
+// Where other things stand among the words, and how many words a place has.
 const (
 	stateAt   = 0
 	leastAt   = 2
-	placesAt  = 5
 	placeSize = 20
 )
 
@@ -22,12 +24,15 @@ func AreWords(words []int) bool {
 		return false
 	}
 	for _, word := range words {
-		if word < 0 || word > 0xffff {
+		if !IsWord(word) {
 			return false
 		}
 	}
 	return true
 }
+
+// IsWord tells whether a number has no more than 16 bits.
+func IsWord(n int) bool { return n >= 0 && n <= 0xffff }
 
 // Read tells what fuses say (P5).
 func Read(words []int) (api.Fuses, api.Errno) {
@@ -77,7 +82,7 @@ func leastOf(words []int) (int, bool) {
 func places(words []int) iter.Seq2[int, place] {
 	return func(yield func(int, place) bool) {
 		for k := range api.Keys {
-			at := placesAt + k*placeSize
+			at := PlacesAt + k*placeSize
 			if !yield(k, place(words[at:at+placeSize])) {
 				return
 			}

@@ -1,6 +1,7 @@
 package fuses
 
 import (
+	"math"
 	"slices"
 	"testing"
 
@@ -52,6 +53,14 @@ func TestAreWords(t *testing.T) {
 	for _, wrong := range []int{-1, 65536} {
 		if AreWords(append(slices.Clone(words[:84]), wrong)) {
 			t.Errorf("the word %d is taken", wrong)
+		}
+	}
+}
+
+func TestIsWord(t *testing.T) {
+	for n, want := range map[int]bool{math.MinInt: false, -65536: false, -1: false, 0: true, 1: true, 65535: true, 65536: false, 1 << 32: false, math.MaxInt: false} {
+		if IsWord(n) != want {
+			t.Errorf("the word %d is taken: %v", n, !want)
 		}
 	}
 }

@@ -55,13 +55,13 @@ func New(flash string, words []int, kept string) (*Chip, api.Errno) {
 func (c *Chip) Boot(gaps []int) api.Outcome { return c.inner.Boot(gaps) }
 
 // Poke writes a byte of the flash (P10).
-func (c *Chip) Poke(address int, value int) api.Errno { return api.OK }
+func (c *Chip) Poke(address int, value int) api.Errno { return c.inner.Poke(address, value) }
 
 // Burn sets bits of a word of fuses (P10).
-func (c *Chip) Burn(word int, bits int) api.Errno { return api.OK }
+func (c *Chip) Burn(word int, bits int) api.Errno { return c.inner.Burn(word, bits) }
 
 // Reset ends what runs (P10).
-func (c *Chip) Reset() {}
+func (c *Chip) Reset() { c.inner.Reset() }
 
 // Flash tells the flash (P8).
 func (c *Chip) Flash() string { return c.inner.Flash() }
